@@ -1,1 +1,1 @@
-"""A number named in turn: what is made, what is left."""
+"""A number named in turn: what is made, what is left, who wins."""

@@ -1,11 +1,37 @@
 """Writes calls as the interface asks for them, and takes what is told apart."""
 
-from itertools import combinations_with_replacement
+from itertools import combinations, combinations_with_replacement
+from math import gcd
 
 from namedinturn.game import answers
 
 BEGINS = [0]
 GAPS = [2]
+WINS = [4]
+WORTH = [5]
+ENDER = [6]
+UNDO = [7]
+
+# Some games with as many left as wins, worth and ender still answer of, and one more.
+SIXTEEN_LEFT = (
+    (2, 35),
+    (6, 11, 20),
+    (8, 10, 19, 23),
+    (11, 12, 14, 18, 20),
+    (8, 20, 21, 22, 23, 25, 26, 27),
+    (10, 18, 21, 22, 23, 24, 25, 26, 27, 29),
+    (12, 16, 18, 21, 22, 23, 25, 26, 27, 29, 31),
+    (12, 18, 20, 21, 22, 23, 25, 26, 27, 28, 29, 31),
+)
+SEVENTEEN_LEFT = (
+    (2, 37),
+    (3, 19),
+    (4, 13),
+    (9, 10, 12),
+    (15, 17, 18, 21, 22, 23, 25, 26, 27, 28, 29, 31),
+)
+# Where so few are left the greatest one is below this.
+BEYOND_SIXTEEN = 40
 
 
 def names(number):
@@ -71,3 +97,30 @@ def first_rows(named, few_at_most):
             if number not in rows:
                 rows[number] = min(candidates)
     return rows
+
+
+def small_games():
+    """Each way to name two to four numbers below 14 so that 16 at most are left."""
+    games = []
+    for few in (2, 3, 4):
+        for named in combinations(range(13, 1, -1), few):
+            if gcd(*named) == 1 and len(left_by(named, 200)) <= 16:
+                games.append(list(named))
+    return games
+
+
+def plain_winning(named, known):
+    """The numbers by which whoever is to name wins, by the words; known keeps what was found."""
+    left = tuple(left_by(named, BEYOND_SIXTEEN))
+    if left not in known:
+        known[left] = [number for number in left if not plain_winning(named + [number], known)]
+    return known[left]
+
+
+def plain_worth(named, known):
+    """The game's worth, by the words; known keeps what was found."""
+    left = tuple(left_by(named, BEYOND_SIXTEEN))
+    if left not in known:
+        worths = {plain_worth(named + [number], known) for number in left}
+        known[left] = min(set(range(len(left) + 1)) - worths)
+    return known[left]
